@@ -8,23 +8,31 @@ import (
 	"loop.example/g00110/impl"
 )
 
-// bookCall is one call of the chapter with its arguments behind the books.
+// bookCall is one call that turns books, with its arguments behind them.
 type bookCall struct {
 	what string
-	args [5]int
+	args [7]int
 }
 
-func accountCall(no int, kind int) bookCall { return bookCall{"account", [5]int{no, kind}} }
+func accountCall(no int, kind int) bookCall { return bookCall{"account", [7]int{no, kind}} }
 
-func instrCall(no int, kind int) bookCall { return bookCall{"instr", [5]int{no, kind}} }
+func instrCall(no int, kind int) bookCall { return bookCall{"instr", [7]int{no, kind}} }
 
 func issueCall(issuer int, holder int, instr int, qty int, cost int) bookCall {
-	return bookCall{"issue", [5]int{issuer, holder, instr, qty, cost}}
+	return bookCall{"issue", [7]int{issuer, holder, instr, qty, cost}}
 }
 
 func moveCall(from int, to int, instr int, qty int, way int) bookCall {
-	return bookCall{"move", [5]int{from, to, instr, qty, way}}
+	return bookCall{"move", [7]int{from, to, instr, qty, way}}
 }
+
+func tradeCall(no int, buyer int, seller int, paper int, qty int, cash int, price int) bookCall {
+	return bookCall{"trade", [7]int{no, buyer, seller, paper, qty, cash, price}}
+}
+
+func cancelCall(no int) bookCall { return bookCall{"cancel", [7]int{no}} }
+
+func settleCall(no int, way int) bookCall { return bookCall{"settle", [7]int{no, way}} }
 
 // do is the books, what the call tells beside, and its code.
 func (c bookCall) do(b impl.Books) (impl.Books, int, int) {
@@ -37,8 +45,14 @@ func (c bookCall) do(b impl.Books) (impl.Books, int, int) {
 		next, code = impl.BookInstr(b, a[0], a[1])
 	case "issue":
 		next, code = impl.BookIssue(b, a[0], a[1], a[2], a[3], a[4])
-	default:
+	case "move":
 		return impl.BookMove(b, a[0], a[1], a[2], a[3], a[4])
+	case "trade":
+		next, code = impl.BookTrade(b, a[0], a[1], a[2], a[3], a[4], a[5], a[6])
+	case "cancel":
+		next, code = impl.BookCancel(b, a[0])
+	default:
+		return impl.BookSettle(b, a[0], a[1])
 	}
 	return next, 0, code
 }
@@ -65,8 +79,15 @@ func (c bookCall) asTold() bool {
 		return inNumbers(a[0]) && slices.Contains([]int{1, 2}, a[1])
 	case "issue":
 		return inNumbers(a[0]) && inNumbers(a[1]) && inNumbers(a[2]) && a[3] >= 1 && a[3] <= top && a[4] >= 0 && a[4] <= top
+	case "move":
+		return inNumbers(a[0]) && inNumbers(a[1]) && inNumbers(a[2]) && a[3] >= 1 && a[3] <= top && slices.Contains(threeWays(), a[4])
+	case "trade":
+		numbers := inNumbers(a[0]) && inNumbers(a[1]) && inNumbers(a[2]) && inNumbers(a[3]) && inNumbers(a[5])
+		return numbers && a[4] >= 1 && a[4] <= top && a[6] >= 0 && a[6] <= top
+	case "cancel":
+		return inNumbers(a[0])
 	}
-	return inNumbers(a[0]) && inNumbers(a[1]) && inNumbers(a[2]) && a[3] >= 1 && a[3] <= top && slices.Contains(threeWays(), a[4])
+	return inNumbers(a[0]) && slices.Contains(threeWays(), a[1])
 }
 
 func (c bookCall) wantRight(b impl.Books) (impl.Books, int, int) {
@@ -78,8 +99,14 @@ func (c bookCall) wantRight(b impl.Books) (impl.Books, int, int) {
 		return wantInstr(b, a[0], a[1])
 	case "issue":
 		return wantIssue(b, a[0], a[1], a[2], a[3], a[4])
+	case "move":
+		return wantMove(b, a[0], a[1], a[2], a[3], a[4])
+	case "trade":
+		return wantTrade(b, tradeOf([8]int{a[0], a[1], a[2], a[3], a[4], a[5], a[6], impl.TrOpen}))
+	case "cancel":
+		return wantCancel(b, a[0])
 	}
-	return wantMove(b, a[0], a[1], a[2], a[3], a[4])
+	return wantSettle(b, a[0], a[1])
 }
 
 func wantAccount(b impl.Books, no int, kind int) (impl.Books, int, int) {

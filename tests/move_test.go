@@ -14,12 +14,15 @@ func moved(to int, left int, leftLots lotRows, has int, toLots lotRows) impl.Boo
 	return b
 }
 
-func TestP6MoveOfAPaper(t *testing.T) {
-	for _, c := range []struct {
-		qty, way int
-		left     lotRows
-		cost     int
-	}{
+// sevenTaken is what is left of the 20 pieces of paper 7 that account 2 has in someBooks, and what was taken cost.
+type sevenTaken struct {
+	qty, way int
+	left     lotRows
+	cost     int
+}
+
+func sevensTaken() []sevenTaken {
+	return []sevenTaken{
 		{1, impl.First, lotRows{{2, 7, 1, 9, 91}, {2, 7, 4, 3, 50}, {2, 7, 9, 7, 20}}, 10},
 		{10, impl.First, lotRows{{2, 7, 4, 3, 50}, {2, 7, 9, 7, 20}}, 101},
 		{12, impl.First, lotRows{{2, 7, 4, 1, 17}, {2, 7, 9, 7, 20}}, 134},
@@ -32,7 +35,11 @@ func TestP6MoveOfAPaper(t *testing.T) {
 		{1, impl.Mean, lotRows{{2, 7, 1, 19, 163}}, 8},
 		{10, impl.Mean, lotRows{{2, 7, 1, 10, 86}}, 85},
 		{20, impl.Mean, nil, 171},
-	} {
+	}
+}
+
+func TestP6MoveOfAPaper(t *testing.T) {
+	for _, c := range sevensTaken() {
 		// To a holder that has some, and to one that has none.
 		checkCall(t, someBooks(), moveCall(2, 3, 7, c.qty, c.way),
 			moved(3, 20-c.qty, c.left, 5+c.qty, lotRows{{3, 7, 3, 5, 60}, {3, 7, 10, c.qty, c.cost}}), c.cost, impl.BkDone)

@@ -142,8 +142,11 @@ func fillBooks(b impl.Books, x int) {
 	fill(b.Trades[:cap(b.Trades)], impl.Trade{No: x})
 }
 
+// allRightCalls are those of the books and of trades.
+func allRightCalls() []bookCall { return append(rightCalls(), rightTradeCalls()...) }
+
 func TestP22BooksWriteIntoNoBooks(t *testing.T) {
-	calls := append(rightCalls(), badCalls()[:30]...)
+	calls := slices.Concat(allRightCalls(), badCalls()[:30], badTradeCalls()[:10])
 	for _, given := range append(rightBooks(), wrongBooks()...) {
 		for _, c := range calls {
 			r := roomyBooks(given)
@@ -178,7 +181,7 @@ func TestP22ListsOfOneAnswerShareNothing(t *testing.T) {
 		func(b impl.Books) { fill(b.Trades[:cap(b.Trades)], impl.Trade{No: -6}) },
 	}
 	for _, given := range rightBooks() {
-		for _, c := range rightCalls() {
+		for _, c := range allRightCalls() {
 			for i, write := range fills {
 				next, _, _ := c.do(given)
 				want := cloneBooks(next)
@@ -195,7 +198,7 @@ func TestP22ListsOfOneAnswerShareNothing(t *testing.T) {
 // Two calls of the same tell the same, whatever was done to the first answer.
 func TestP22BooksAreNewEachTime(t *testing.T) {
 	for _, b := range rightBooks() {
-		for _, c := range rightCalls() {
+		for _, c := range allRightCalls() {
 			first, _, _ := c.do(b)
 			fillBooks(first, -6)
 			checkCallByWords(t, b, c)

@@ -34,6 +34,8 @@ func cancelCall(no int) bookCall { return bookCall{"cancel", [7]int{no}} }
 
 func settleCall(no int, way int) bookCall { return bookCall{"settle", [7]int{no, way}} }
 
+func netCall(from int, to int, way int) bookCall { return bookCall{"net", [7]int{from, to, way}} }
+
 // do is the books, what the call tells beside, and its code.
 func (c bookCall) do(b impl.Books) (impl.Books, int, int) {
 	a := c.args
@@ -51,6 +53,9 @@ func (c bookCall) do(b impl.Books) (impl.Books, int, int) {
 		next, code = impl.BookTrade(b, a[0], a[1], a[2], a[3], a[4], a[5], a[6])
 	case "cancel":
 		next, code = impl.BookCancel(b, a[0])
+	case "net":
+		net, _, gains, netCode := impl.BookNet(b, a[0], a[1], a[2])
+		return net, gains, netCode
 	default:
 		return impl.BookSettle(b, a[0], a[1])
 	}
@@ -86,6 +91,8 @@ func (c bookCall) asTold() bool {
 		return numbers && a[4] >= 1 && a[4] <= top && a[6] >= 0 && a[6] <= top
 	case "cancel":
 		return inNumbers(a[0])
+	case "net":
+		return inNumbers(a[0]) && inNumbers(a[1]) && slices.Contains(threeWays(), a[2])
 	}
 	return inNumbers(a[0]) && slices.Contains(threeWays(), a[1])
 }
@@ -105,6 +112,8 @@ func (c bookCall) wantRight(b impl.Books) (impl.Books, int, int) {
 		return wantTrade(b, tradeOf([8]int{a[0], a[1], a[2], a[3], a[4], a[5], a[6], impl.TrOpen}))
 	case "cancel":
 		return wantCancel(b, a[0])
+	case "net":
+		return wantNet(b, a[0], a[1], a[2])
 	}
 	return wantSettle(b, a[0], a[1])
 }

@@ -36,6 +36,18 @@ func settleCall(no int, way int) bookCall { return bookCall{"settle", [7]int{no,
 
 func netCall(from int, to int, way int) bookCall { return bookCall{"net", [7]int{from, to, way}} }
 
+func fxCall(holder int, dealer int, from int, to int, amount int, num int, den int) bookCall {
+	return bookCall{"fx", [7]int{holder, dealer, from, to, amount, num, den}}
+}
+
+func splitCall(paper int, n int, d int, issuer int) bookCall {
+	return bookCall{"split", [7]int{paper, n, d, issuer}}
+}
+
+func payCall(paper int, cash int, payer int, total int) bookCall {
+	return bookCall{"pay", [7]int{paper, cash, payer, total}}
+}
+
 // do is the books, what the call tells beside, and its code.
 func (c bookCall) do(b impl.Books) (impl.Books, int, int) {
 	a := c.args
@@ -56,6 +68,12 @@ func (c bookCall) do(b impl.Books) (impl.Books, int, int) {
 	case "net":
 		net, _, gains, netCode := impl.BookNet(b, a[0], a[1], a[2])
 		return net, gains, netCode
+	case "fx":
+		return impl.BookFx(b, a[0], a[1], a[2], a[3], a[4], a[5], a[6])
+	case "split":
+		return impl.BookSplit(b, a[0], a[1], a[2], a[3])
+	case "pay":
+		return impl.BookPay(b, a[0], a[1], a[2], a[3])
 	default:
 		return impl.BookSettle(b, a[0], a[1])
 	}
@@ -93,6 +111,13 @@ func (c bookCall) asTold() bool {
 		return inNumbers(a[0])
 	case "net":
 		return inNumbers(a[0]) && inNumbers(a[1]) && slices.Contains(threeWays(), a[2])
+	case "fx":
+		numbers := inNumbers(a[0]) && inNumbers(a[1]) && inNumbers(a[2]) && inNumbers(a[3])
+		return numbers && a[4] >= 1 && a[4] <= top && a[5] >= 1 && a[5] <= top && a[6] >= 1 && a[6] <= top
+	case "split":
+		return inNumbers(a[0]) && inNumbers(a[3]) && a[1] >= 1 && a[1] <= 1000000 && a[2] >= 1 && a[2] <= 1000000
+	case "pay":
+		return inNumbers(a[0]) && inNumbers(a[1]) && inNumbers(a[2]) && a[3] >= 0 && a[3] <= top
 	}
 	return inNumbers(a[0]) && slices.Contains(threeWays(), a[1])
 }
@@ -114,6 +139,12 @@ func (c bookCall) wantRight(b impl.Books) (impl.Books, int, int) {
 		return wantCancel(b, a[0])
 	case "net":
 		return wantNet(b, a[0], a[1], a[2])
+	case "fx":
+		return wantFx(b, a)
+	case "split":
+		return wantSplit(b, a[0], a[1], a[2], a[3])
+	case "pay":
+		return wantPay(b, a[0], a[1], a[2], a[3])
 	}
 	return wantSettle(b, a[0], a[1])
 }

@@ -16,17 +16,32 @@ func wantSettle(b impl.Books, no int, way int) (impl.Books, int, int) {
 		return b, 0, impl.BkState
 	}
 	legs := rows{{d.Buyer, d.Cash, -d.Price}, {d.Seller, d.Cash, d.Price}, {d.Seller, d.Paper, -d.Qty}, {d.Buyer, d.Paper, d.Qty}}.legs()
-	bals, posted := wantPost(b.Bals, legs, notHolders(b))
-	if posted != impl.PostDone {
-		return b, 0, map[int]int{impl.PostShort: impl.BkShort, impl.PostLarge: impl.BkLarge, impl.PostFull: impl.BkFull}[posted]
+	b, code := wantPosted(b, legs)
+	if code != impl.BkDone {
+		return b, 0, code
 	}
 	lots, cost, taken := wantTake(b.Lots, d.Seller, d.Paper, d.Qty, way)
 	if taken != impl.LotDone {
 		return b, 0, impl.BkShort
 	}
-	b.Bals, b.Lots = bals, lots
-	b, code := wantOpened(b, d.Buyer, d.Paper, d.Qty, d.Price)
+	b.Lots = lots
+	b, code = wantOpened(b, d.Buyer, d.Paper, d.Qty, d.Price)
 	return inState(b, no, impl.TrDone), d.Price - cost, code
+}
+
+// wantPosted are books with all legs, where nobody that is a holder may lack any.
+func wantPosted(b impl.Books, legs []impl.Leg) (impl.Books, int) {
+	bals, posted := wantPost(b.Bals, legs, notHolders(b))
+	switch posted {
+	case impl.PostDone:
+		b.Bals = bals
+		return b, impl.BkDone
+	case impl.PostShort:
+		return b, impl.BkShort
+	case impl.PostFull:
+		return b, impl.BkFull
+	}
+	return b, impl.BkLarge
 }
 
 func notHolders(b impl.Books) []int {

@@ -142,13 +142,13 @@ func fillBooks(b impl.Books, x int) {
 	fill(b.Trades[:cap(b.Trades)], impl.Trade{No: x})
 }
 
-// allRightCalls are those of the books, of trades and of netting.
+// allRightCalls are those of the books, of trades, of netting, and of change, splits and payments.
 func allRightCalls() []bookCall {
-	return slices.Concat(rightCalls(), rightTradeCalls(), rightNetCalls())
+	return slices.Concat(rightCalls(), rightTradeCalls(), rightNetCalls(), rightCorpCalls())
 }
 
 func TestP22BooksWriteIntoNoBooks(t *testing.T) {
-	calls := slices.Concat(allRightCalls(), badCalls()[:30], badTradeCalls()[:10], badNetCalls()[:10])
+	calls := slices.Concat(allRightCalls(), badCalls()[:30], badTradeCalls()[:10], badNetCalls()[:10], badCorpCalls()[:10])
 	for _, given := range append(rightBooks(), wrongBooks()...) {
 		for _, c := range calls {
 			r := roomyBooks(given)

@@ -133,25 +133,31 @@ func (c diskCall) want(d impl.Disk) (impl.Disk, int) {
 	return s.disk(d.Room), impl.DiskDone
 }
 
-// checkDisk wants one answer of a call, and, whatever it is, that what is told with DiskDone is right.
-func checkDisk(t *testing.T, d impl.Disk, c diskCall, want impl.Disk, wantCode int) {
+// diskTurn is a call that turns a disk, beside what the words want of it.
+type diskTurn interface {
+	do(d impl.Disk) (impl.Disk, int)
+	want(d impl.Disk) (impl.Disk, int)
+}
+
+// checkDisk wants one answer of a call, and, whatever it is, that the disk that is told is right.
+func checkDisk(t *testing.T, d impl.Disk, c diskTurn, want impl.Disk, wantCode int) {
 	t.Helper()
 	got, code := c.do(d)
 	if !sameDisk(got, want) || code != wantCode {
 		t.Errorf("%v of %s = %s, %d; want %s, %d", c, diskText(d), diskText(got), code, diskText(want), wantCode)
 	}
-	if code == impl.DiskDone && (!impl.DiskOk(got) || !diskRight(got) || got.Room != d.Room) {
+	if !impl.DiskOk(got) || !diskRight(got) || code == impl.DiskDone && got.Room != d.Room {
 		t.Errorf("%v of %s is a wrong disk: %s", c, diskText(d), diskText(got))
 	}
 }
 
-func checkDiskByWords(t *testing.T, d impl.Disk, c diskCall) {
+func checkDiskByWords(t *testing.T, d impl.Disk, c diskTurn) {
 	t.Helper()
 	want, code := c.want(d)
 	checkDisk(t, d, c, want, code)
 }
 
-func checkDiskBad(t *testing.T, d impl.Disk, c diskCall) {
+func checkDiskBad(t *testing.T, d impl.Disk, c diskTurn) {
 	t.Helper()
 	checkDisk(t, d, c, impl.Disk{}, impl.DiskBad)
 	if got, _ := c.do(d); got.Room != 0 || len(got.Files) != 0 {

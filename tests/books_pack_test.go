@@ -188,8 +188,8 @@ func TestP13FullBooksAreReadAsTheyWere(t *testing.T) {
 	checkBooksReadAgain(t, lots)
 }
 
-// The longest forms that there can be, in each row of as many as there can be.
-func TestP13BooksOfTheMostBytes(t *testing.T) {
+// mostBooks have the longest forms that there can be, in each row of as many as there can be.
+func mostBooks() impl.Books {
 	b := impl.Books{Lot: lastNo}
 	for i := range impl.MaxAccounts {
 		b.Accounts = append(b.Accounts, impl.Account{No: 981 + i, Kind: 1 + i%2})
@@ -214,6 +214,11 @@ func TestP13BooksOfTheMostBytes(t *testing.T) {
 	for i := range impl.MaxTrades {
 		b.Trades = append(b.Trades, tradeOf([8]int{971 + i, 981, 983 + 2*(i%9), 994 + 2*(i%4), top - i, 993 + 2*(i%4), top, 1 + i%3}))
 	}
+	return b
+}
+
+func TestP13BooksOfTheMostBytes(t *testing.T) {
+	b := mostBooks()
 	if len(b.Lots) != impl.MaxLots {
 		t.Fatalf("%d lots", len(b.Lots))
 	}
